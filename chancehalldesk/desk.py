@@ -1,0 +1,49 @@
+"""The calls of the desk; each answers a list of whole numbers, a refusal below 0 by itself."""
+
+from chancehalldesk.cards import NoCard, read_card
+from chancehalldesk.chances import chance_of_order
+from chancehalldesk.stakes import cents_of_interests, is_money_right
+
+CARD_TOO_LONG = -2
+NO_CARD = -8
+NO_SUCH_POOL = -4
+MONEY_NOT_RIGHT = -5
+WRONG_POOL_OR_ROW = -1
+NO_MONEY = -3
+LONGEST_CARD = 65536
+LONGEST_ORDER = 4
+
+
+def order(pool, card, money, row):
+    if len(card) > LONGEST_CARD:
+        return [CARD_TOO_LONG]
+    try:
+        pools = read_card(card)
+    except NoCard:
+        return [NO_CARD]
+    if pool >= len(pools):
+        return [NO_SUCH_POOL]
+    asked = pools[pool]
+    if not is_money_right(money, asked):
+        return [MONEY_NOT_RIGHT]
+    if not is_on_firsts(asked) or not is_order(row, asked.fields[0]):
+        return [WRONG_POOL_OR_ROW]
+    if len(money) == 0:
+        return [NO_MONEY]
+    chance = chance_of_order(row, cents_of_interests(money, asked.fields[0]))
+    return [0, chance[0], chance[1]]
+
+
+def is_on_firsts(pool):
+    return pool.kind == "place" and pool.size == 1
+
+
+def is_order(row, interests):
+    if len(row) < 1 or len(row) > LONGEST_ORDER:
+        return False
+    seen = {}
+    for interest in row:
+        if interest not in interests or interest in seen:
+            return False
+        seen[interest] = True
+    return True
