@@ -1,17 +1,6 @@
 """Chances, as fractions (over, under) in lowest terms."""
 
-
-def greatest_divisor(one, other):
-    while other != 0:
-        rest = one % other
-        one = other
-        other = rest
-    return one
-
-
-def lowest_terms(over, under):
-    divisor = greatest_divisor(over, under)
-    return (over // divisor, under // divisor)
+from chancehalldesk.fraction import add_fractions, lowest_terms
 
 
 def chance_of_order(row, cents_of):
@@ -27,3 +16,22 @@ def chance_of_order(row, cents_of):
         under = under * left
         left = left - cents
     return lowest_terms(over, under)
+
+
+def chance_of_set(row, cents_of):
+    total = (0, 1)
+    for placed in orders_of(row):
+        chance = chance_of_order(placed, cents_of)
+        total = add_fractions(total[0], total[1], chance[0], chance[1])
+    return total
+
+
+def orders_of(row):
+    orders = [[]]
+    for interest in row:
+        longer = []
+        for placed in orders:
+            for at in range(len(placed) + 1):
+                longer.append(placed[:at] + [interest] + placed[at:])
+        orders = longer
+    return orders

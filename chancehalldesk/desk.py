@@ -1,7 +1,7 @@
 """The calls of the desk; each answers a list of whole numbers, a refusal below 0 by itself."""
 
 from chancehalldesk.cards import NoCard, read_card
-from chancehalldesk.chances import chance_of_order
+from chancehalldesk.chances import chance_of_order, chance_of_set
 from chancehalldesk.stakes import cents_of_interests, is_money_right
 
 CARD_TOO_LONG = -2
@@ -12,9 +12,19 @@ WRONG_POOL_OR_ROW = -1
 NO_MONEY = -3
 LONGEST_CARD = 65536
 LONGEST_ORDER = 4
+SMALLEST_SET = 2
+LARGEST_SET = 3
 
 
 def order(pool, card, money, row):
+    return answer_chance(pool, card, money, row, is_order, chance_of_order)
+
+
+def any_of(pool, card, money, row):
+    return answer_chance(pool, card, money, row, is_set, chance_of_set)
+
+
+def answer_chance(pool, card, money, row, is_row_right, chance_of):
     if len(card) > LONGEST_CARD:
         return [CARD_TOO_LONG]
     try:
@@ -26,11 +36,11 @@ def order(pool, card, money, row):
     asked = pools[pool]
     if not is_money_right(money, asked):
         return [MONEY_NOT_RIGHT]
-    if not is_on_firsts(asked) or not is_order(row, asked.fields[0]):
+    if not is_on_firsts(asked) or not is_row_right(row, asked.fields[0]):
         return [WRONG_POOL_OR_ROW]
     if len(money) == 0:
         return [NO_MONEY]
-    chance = chance_of_order(row, cents_of_interests(money, asked.fields[0]))
+    chance = chance_of(row, cents_of_interests(money, asked.fields[0]))
     return [0, chance[0], chance[1]]
 
 
@@ -46,4 +56,16 @@ def is_order(row, interests):
         if interest not in interests or interest in seen:
             return False
         seen[interest] = True
+    return True
+
+
+def is_set(row, interests):
+    if len(row) < SMALLEST_SET or len(row) > LARGEST_SET:
+        return False
+    # Interests begin at 1, and those that rise differ.
+    interest_before = 0
+    for interest in row:
+        if interest not in interests or interest <= interest_before:
+            return False
+        interest_before = interest
     return True

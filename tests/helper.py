@@ -5,6 +5,8 @@ combinations written out one by one, and fractions of Python's own.
 """
 
 import itertools
+import math
+import random
 import re
 from fractions import Fraction
 
@@ -12,6 +14,11 @@ from chancehalldesk import desk
 
 NO_POOL_HAS_THIS = 4294967295
 MOST_CENTS = 2 ** 48 - 1
+GREATEST_CENTS = 2 ** 64 - 1
+GREATEST = 2 ** 32 - 1
+
+RACES = ("race 5 couple 2 4", "race 7", "race 3 couple 1 3", "race 2", "race 24", "race 2 couple 1 2")
+INTERESTS = (4, 7, 2, 2, 24, 1)
 
 
 class Watched(list):
@@ -42,19 +49,47 @@ def flat(pairs):
     return [number for pair in pairs for number in pair]
 
 
-def ask(card, pairs, row, pool=0):
-    """Asks order twice with lists that can't be changed; the two answers must be one."""
+def all_pools():
+    """Kinds, sizes and races of pools over RACES, and how many combinations each has."""
+    for race, interests in enumerate(INTERESTS, start=1):
+        for k in range(1, min(interests, 4) + 1):
+            yield ("place", k, race), interests
+        for k in range(2, min(interests, 4) + 1):
+            yield ("order", k, race), math.perm(interests, k)
+        for k in range(2, min(interests, 3) + 1):
+            yield ("any", k, race), math.comb(interests, k)
+        for k in range(2, len(INTERESTS) - race + 2):
+            yield ("legs", k, race), math.prod(INTERESTS[race - 1:race - 1 + k])
+
+
+def check_answer(answer):
+    if type(answer) is not list or any(type(number) is not int for number in answer):
+        raise AssertionError(f"not a list of whole numbers: {answer!r}")
+
+
+def ask(card, pairs, row, pool=0, call=desk.order):
+    """Asks order or any_of twice, first with lists that can't be changed; the two answers must be one."""
     byte_list = as_bytes(card)
     money = flat(pairs)
     handed = (Watched(byte_list), Watched(money), Watched(row))
-    answer = desk.order(pool, *handed)
+    answer = call(pool, *handed)
+    check_answer(answer)
     if [list(part) for part in handed] != [byte_list, money, list(row)]:
         raise AssertionError("what was handed in is changed")
-    if desk.order(pool, byte_list, money, list(row)) != answer:
+    if call(pool, byte_list, money, list(row)) != answer:
         raise AssertionError("the second call answers otherwise than the first")
-    if type(answer) is not list or any(type(number) is not int for number in answer):
-        raise AssertionError(f"not a list of whole numbers: {answer!r}")
     return answer
+
+
+def ask_any(card, pairs, row, pool=0):
+    return ask(card, pairs, row, pool, desk.any_of)
+
+
+def chance(card, pairs, row, call=desk.order):
+    answer = ask(card, pairs, row, call=call)
+    if len(answer) != 3 or answer[0] != 0:
+        raise AssertionError(f"no chance: {answer!r}")
+    return Fraction(answer[1], answer[2])
 
 
 def is_card(card):
@@ -64,8 +99,8 @@ def is_card(card):
     return answer == [-4]
 
 
-def told(chance):
-    return [0, chance.numerator, chance.denominator]
+def told(fraction):
+    return [0, fraction.numerator, fraction.denominator]
 
 
 NAME = "[a-z][a-z0-9]{0,11}"
@@ -135,7 +170,21 @@ def model_chance(cents_of, row):
     return chance
 
 
+def model_set_chance(cents_of, row):
+    return sum(model_chance(cents_of, placed) for placed in itertools.permutations(row))
+
+
 def model_order(text, pairs, row, pool=0):
+    is_right = 1 <= len(row) <= 4 and len(set(row)) == len(row)
+    return model_answer(text, pairs, row, pool, is_right, model_chance)
+
+
+def model_any(text, pairs, row, pool=0):
+    is_right = 2 <= len(row) <= 3 and sorted(set(row)) == row
+    return model_answer(text, pairs, row, pool, is_right, model_set_chance)
+
+
+def model_answer(text, pairs, row, pool, is_right_row, chance_of):
     if len(text) > 65536:
         return [-2]
     pools = model_pools(text)
@@ -150,10 +199,48 @@ def model_order(text, pairs, row, pool=0):
         return [-5]
     if any(cents < 1 for number, cents in pairs) or sum(cents for number, cents in pairs) > MOST_CENTS:
         return [-5]
-    if (kind, k) != ("place", 1) or not 1 <= len(row) <= 4 or len(set(row)) < len(row) or set(row) - set(fields[0]):
+    if (kind, k) != ("place", 1) or not is_right_row or set(row) - set(fields[0]):
         return [-1]
     if not pairs:
         return [-3]
     cents_of = dict.fromkeys(fields[0], 0)
     cents_of.update({rows[number][0]: cents for number, cents in pairs})
-    return told(model_chance(cents_of, row))
+    return told(chance_of(cents_of, row))
+
+
+def moneys():
+    """Money of many shapes on a race of six: few and many interests with cents, small and the greatest cents."""
+    dice = random.Random(7)
+    for with_money in range(1, 7):
+        for most in (1, 12, 1000, MOST_CENTS // 6):
+            numbers = sorted(dice.sample(range(6), with_money))
+            yield [(number, dice.randint(1, most)) for number in numbers]
+
+
+def shuffled_card(dice):
+    races = []
+    for i in range(dice.randint(1, 4)):
+        couples = "".join(f" couple {dice.randint(1, 4)} {dice.randint(3, 7)}" for j in range(dice.choice((0, 0, 1, 2))))
+        races.append(f"race {dice.randint(4, 8)}{couples}")
+    pools = []
+    for i in range(dice.randint(1, 3)):
+        kind = dice.choice(("place", "place", "place", "order", "any", "legs"))
+        size = 1 if kind == "place" and dice.random() < 0.7 else dice.randint(2, 3)
+        pools.append(pool_line(dice.choice("abcdefgh"), kind, size, dice.randint(1, len(races))))
+    return card_text(races, pools)
+
+
+def shuffled_calls(seed, count):
+    """Texts, pairs, rows and pools, right and wrong, in the order of ask's arguments."""
+    dice = random.Random(seed)
+    for i in range(count):
+        text = shuffled_card(dice)
+        if dice.random() < 0.2:
+            at = dice.randrange(len(text))
+            text = text[:at] + dice.choice(("", " ", "\n", "0", "1", "9", "a")) + text[at + dice.randint(0, 1):]
+        numbers = sorted(dice.sample(range(dice.choice((4, 8, 40))), dice.randint(0, 4)))
+        if dice.random() < 0.05:
+            dice.shuffle(numbers)
+        pairs = [(number, dice.randint(0 if dice.random() < 0.1 else 1, 9)) for number in numbers]
+        row = [dice.randint(1, 5) for j in range(dice.choice((1, 1, 2, 2, 3, 4, 5)))]
+        yield text, pairs, row, dice.choice((0, 0, 0, 1, 2))

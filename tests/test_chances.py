@@ -2,11 +2,10 @@
 
 import itertools
 import math
-import random
 import unittest
 from fractions import Fraction
 
-from tests.helper import MOST_CENTS, ask, card_text, model_chance, pool_line, told
+from tests.helper import MOST_CENTS, ask, card_text, chance, model_chance, moneys, pool_line, told
 
 FOUR = card_text()
 FOUR_CENTS = [(0, 400), (1, 300), (2, 200), (3, 100)]
@@ -14,13 +13,6 @@ FOUR_CENTS = [(0, 400), (1, 300), (2, 200), (3, 100)]
 COUPLED = card_text(["race 6 couple 1 2 couple 1 4"])
 SIX = card_text(["race 6"])
 WIDEST = card_text(["race 24"])
-
-
-def chance(card, pairs, row):
-    answer = ask(card, pairs, row)
-    if len(answer) != 3 or answer[0] != 0:
-        raise AssertionError(f"no chance: {answer!r}")
-    return Fraction(answer[1], answer[2])
 
 
 class OrdinaryOrders(unittest.TestCase):
@@ -85,15 +77,6 @@ class OrdinaryOrders(unittest.TestCase):
         first = ask(FOUR, FOUR_CENTS, [1])
         first.append(99)
         self.assertEqual(ask(FOUR, FOUR_CENTS, [1]), [0, 2, 5])
-
-
-def moneys():
-    """Money of many shapes on a race of six: few and many interests with cents, small and the greatest cents."""
-    dice = random.Random(7)
-    for with_money in range(1, 7):
-        for most in (1, 12, 1000, MOST_CENTS // 6):
-            numbers = sorted(dice.sample(range(6), with_money))
-            yield [(number, dice.randint(1, most)) for number in numbers]
 
 
 class PromisesOfOrders(unittest.TestCase):

@@ -26,6 +26,10 @@ NODES = """Module FunctionDef arguments arg ClassDef Return Assign AugAssign For
 OUTLAWED_WORDS = re.compile(r"\b(type|typing|typing_extensions|enum|Enum|IntEnum|StrEnum|Flag|IntFlag|Generic|Protocol"
                             r"|ABC|ABCMeta|namedtuple|NamedTuple|TypedDict|TYPE_CHECKING|abstractmethod)\b"
                             r"|dataclass|overload|contextmanager")
+CALLS = {
+    "order": "pool card money row",
+    "any_of": "pool card money row",
+}
 
 
 class Form(unittest.TestCase):
@@ -90,7 +94,8 @@ class Form(unittest.TestCase):
                 self.assertIn(node.func.attr, METHODS | own, (name, node.lineno))
 
     def test_calls_as_the_document_names_them(self):
-        self.assertEqual(list(inspect.signature(desk.order).parameters), ["pool", "card", "money", "row"])
+        for name, arguments in CALLS.items():
+            self.assertEqual(list(inspect.signature(getattr(desk, name)).parameters), arguments.split())
 
 
 if __name__ == "__main__":

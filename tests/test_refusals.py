@@ -4,29 +4,12 @@ import contextlib
 import io
 import itertools
 import math
-import random
 import unittest
 
 from chancehalldesk import desk
-from tests.helper import MOST_CENTS, NO_POOL_HAS_THIS, as_bytes, ask, card_text, model_order, pool_line
-
-RACES = ("race 5 couple 2 4", "race 7", "race 3 couple 1 3", "race 2", "race 24", "race 2 couple 1 2")
-INTERESTS = (4, 7, 2, 2, 24, 1)
-GREATEST_CENTS = 2 ** 64 - 1
-GREATEST = 2 ** 32 - 1
-
-
-def all_pools():
-    """Lines of pools of each kind and size over RACES, and how many combinations each has."""
-    for race, interests in enumerate(INTERESTS, start=1):
-        for k in range(1, min(interests, 4) + 1):
-            yield ("place", k, race), interests
-        for k in range(2, min(interests, 4) + 1):
-            yield ("order", k, race), math.perm(interests, k)
-        for k in range(2, min(interests, 3) + 1):
-            yield ("any", k, race), math.comb(interests, k)
-        for k in range(2, len(INTERESTS) - race + 2):
-            yield ("legs", k, race), math.prod(INTERESTS[race - 1:race - 1 + k])
+from tests.helper import (
+    GREATEST, GREATEST_CENTS, MOST_CENTS, NO_POOL_HAS_THIS, RACES, all_pools, as_bytes, ask, card_text, model_order,
+    pool_line, shuffled_calls)
 
 
 class Pools(unittest.TestCase):
@@ -216,36 +199,12 @@ class FirstRefusal(unittest.TestCase):
         self.assertEqual(said.getvalue(), "")
 
 
-def shuffled_card(dice):
-    races = []
-    for i in range(dice.randint(1, 4)):
-        couples = "".join(f" couple {dice.randint(1, 4)} {dice.randint(3, 7)}" for j in range(dice.choice((0, 0, 1, 2))))
-        races.append(f"race {dice.randint(4, 8)}{couples}")
-    pools = []
-    for i in range(dice.randint(1, 3)):
-        kind = dice.choice(("place", "place", "place", "order", "any", "legs"))
-        size = 1 if kind == "place" and dice.random() < 0.7 else dice.randint(2, 3)
-        pools.append(pool_line(dice.choice("abcdefgh"), kind, size, dice.randint(1, len(races))))
-    return card_text(races, pools)
-
-
 class AgainstTheModel(unittest.TestCase):
     def test_shuffled_calls(self):
-        dice = random.Random(11)
         seen = {}
-        for i in range(4000):
-            text = shuffled_card(dice)
-            if dice.random() < 0.2:
-                at = dice.randrange(len(text))
-                text = text[:at] + dice.choice(("", " ", "\n", "0", "1", "9", "a")) + text[at + dice.randint(0, 1):]
-            numbers = sorted(dice.sample(range(dice.choice((4, 8, 40))), dice.randint(0, 4)))
-            if dice.random() < 0.05:
-                dice.shuffle(numbers)
-            pairs = [(number, dice.randint(0 if dice.random() < 0.1 else 1, 9)) for number in numbers]
-            row = [dice.randint(1, 5) for j in range(dice.choice((1, 1, 2, 2, 3, 4, 5)))]
-            pool = dice.choice((0, 0, 0, 1, 2))
-            answer = ask(text, pairs, row, pool)
-            self.assertEqual(answer, model_order(text, pairs, row, pool), (text, pairs, row, pool))
+        for call in shuffled_calls(11, 4000):
+            answer = ask(*call)
+            self.assertEqual(answer, model_order(*call), call)
             seen[answer[0]] = seen.get(answer[0], 0) + 1
         self.assertEqual(sorted(seen), [-8, -5, -4, -3, -1, 0])
         self.assertGreater(min(seen.values()), 20, seen)
