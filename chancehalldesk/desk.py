@@ -2,6 +2,7 @@
 
 from chancehalldesk.cards import NoCard, read_card
 from chancehalldesk.chances import chance_of_order, chance_of_set
+from chancehalldesk.fraction import is_right
 from chancehalldesk.stakes import cents_of_interests, is_money_right
 
 CARD_TOO_LONG = -2
@@ -10,6 +11,10 @@ NO_SUCH_POOL = -4
 MONEY_NOT_RIGHT = -5
 WRONG_POOL_OR_ROW = -1
 NO_MONEY = -3
+FRACTION_NOT_RIGHT = -6
+FIRST_IS_MORE = 2
+BOTH_ARE_THE_SAME = 1
+FIRST_IS_LESS = 0
 LONGEST_CARD = 65536
 LONGEST_ORDER = 4
 SMALLEST_SET = 2
@@ -22,6 +27,19 @@ def order(pool, card, money, row):
 
 def any_of(pool, card, money, row):
     return answer_chance(pool, card, money, row, is_set, chance_of_set)
+
+
+def more(over, under, other_over, other_under):
+    if not is_right(over, under) or not is_right(other_over, other_under):
+        return [FRACTION_NOT_RIGHT]
+    # Both unders are above 0, so this compares as the fractions do, without dividing.
+    first = over * other_under
+    second = other_over * under
+    if first > second:
+        return [0, FIRST_IS_MORE]
+    if first == second:
+        return [0, BOTH_ARE_THE_SAME]
+    return [0, FIRST_IS_LESS]
 
 
 def answer_chance(pool, card, money, row, is_row_right, chance_of):

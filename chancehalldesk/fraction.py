@@ -9,6 +9,11 @@ def greatest_divisor(one, other):
     return one
 
 
+# Of 0 and an under the greatest divisor is the under: so 0 is right over 1 alone.
+def is_right(over, under):
+    return under > 0 and over <= under and greatest_divisor(over, under) == 1
+
+
 def lowest_terms(over, under):
     divisor = greatest_divisor(over, under)
     return (over // divisor, under // divisor)

@@ -4,10 +4,12 @@ The model is written another way than the program on purpose: a regular expressi
 combinations written out one by one, and fractions of Python's own.
 """
 
+import contextlib
 import itertools
 import math
 import random
 import re
+import signal
 from fractions import Fraction
 
 from chancehalldesk import desk
@@ -16,6 +18,22 @@ NO_POOL_HAS_THIS = 4294967295
 MOST_CENTS = 2 ** 48 - 1
 GREATEST_CENTS = 2 ** 64 - 1
 GREATEST = 2 ** 32 - 1
+GREATEST_PART = 2 ** 400 - 1
+
+# Pairs of an over and an under, one list for each way in which they are no right fraction.
+NOT_RIGHT = {
+    "under 0, over 0": [(0, 0)],
+    "under 0, over above 0": [(1, 0), (2, 0), (7, 0), (GREATEST_PART, 0)],
+    "over above under": [(2, 1), (3, 2), (8, 7), (GREATEST_PART, 1), (GREATEST_PART, GREATEST_PART - 1)],
+    "not in lowest terms": [(2, 2), (2, 4), (6, 9), (3, 3), (15, 35), (2 ** 398, 2 ** 399), (3 ** 251, 3 ** 252),
+                            (GREATEST_PART, GREATEST_PART), (2 ** 200 - 1, GREATEST_PART)],
+    "0 over an under above 1": [(0, 2), (0, 3), (0, 10), (0, 2 ** 399), (0, GREATEST_PART)],
+    "over above under, and not in lowest terms": [(4, 2), (9, 6), (GREATEST_PART, 2 ** 200 - 1)],
+}
+ALL_NOT_RIGHT = [pair for pairs in NOT_RIGHT.values() for pair in pairs]
+
+RIGHT = [(0, 1), (1, 1), (1, 2), (1, 3), (2, 3), (3, 7), (6, 35), (999, 1000), (1, GREATEST_PART),
+         (GREATEST_PART - 1, GREATEST_PART), (2 ** 399, GREATEST_PART), (3 ** 252, GREATEST_PART - 2)]
 
 RACES = ("race 5 couple 2 4", "race 7", "race 3 couple 1 3", "race 2", "race 24", "race 2 couple 1 2")
 INTERESTS = (4, 7, 2, 2, 24, 1)
@@ -83,6 +101,38 @@ def ask(card, pairs, row, pool=0, call=desk.order):
 
 def ask_any(card, pairs, row, pool=0):
     return ask(card, pairs, row, pool, desk.any_of)
+
+
+@contextlib.contextmanager
+def ending_at_once():
+    """What stands within must end in some seconds: a way that takes steps by the numbers' size would never end."""
+    def stop(number, frame):
+        raise AssertionError("it doesn't end at once")
+
+    before = signal.signal(signal.SIGALRM, stop)
+    signal.alarm(20)
+    try:
+        yield
+    finally:
+        signal.alarm(0)
+        signal.signal(signal.SIGALRM, before)
+
+
+def fibonacci(most):
+    """The numbers of Fibonacci from 1, 2 on up to most: neighbours among them have the longest way to their divisor."""
+    numbers = [1, 2]
+    while numbers[-1] + numbers[-2] <= most:
+        numbers.append(numbers[-1] + numbers[-2])
+    return numbers
+
+
+def ask_numbers(call, *numbers):
+    """Asks more, sum_of or fair twice; the two answers must be one."""
+    answer = call(*numbers)
+    check_answer(answer)
+    if call(*numbers) != answer:
+        raise AssertionError("the second call answers otherwise than the first")
+    return answer
 
 
 def chance(card, pairs, row, call=desk.order):
@@ -170,6 +220,20 @@ def model_chance(cents_of, row):
     return chance
 
 
+def model_right(over, under):
+    if under == 0:
+        return False
+    fraction = Fraction(over, under)
+    return fraction <= 1 and (fraction.numerator, fraction.denominator) == (over, under)
+
+
+def model_more(over, under, other_over, other_under):
+    if not model_right(over, under) or not model_right(other_over, other_under):
+        return [-6]
+    first, second = Fraction(over, under), Fraction(other_over, other_under)
+    return [0, 2 if first > second else 1 if first == second else 0]
+
+
 def model_set_chance(cents_of, row):
     return sum(model_chance(cents_of, placed) for placed in itertools.permutations(row))
 
@@ -220,8 +284,8 @@ def moneys():
 def shuffled_card(dice):
     races = []
     for i in range(dice.randint(1, 4)):
-        couples = "".join(f" couple {dice.randint(1, 4)} {dice.randint(3, 7)}" for j in range(dice.choice((0, 0, 1, 2))))
-        races.append(f"race {dice.randint(4, 8)}{couples}")
+        couples = [f" couple {dice.randint(1, 4)} {dice.randint(3, 7)}" for j in range(dice.choice((0, 0, 1, 2)))]
+        races.append(f"race {dice.randint(4, 8)}" + "".join(couples))
     pools = []
     for i in range(dice.randint(1, 3)):
         kind = dice.choice(("place", "place", "place", "order", "any", "legs"))

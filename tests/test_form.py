@@ -29,6 +29,7 @@ OUTLAWED_WORDS = re.compile(r"\b(type|typing|typing_extensions|enum|Enum|IntEnum
 CALLS = {
     "order": "pool card money row",
     "any_of": "pool card money row",
+    "more": "over under other_over other_under",
 }
 
 
