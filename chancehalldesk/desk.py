@@ -2,7 +2,7 @@
 
 from chancehalldesk.cards import NoCard, read_card
 from chancehalldesk.chances import chance_of_order, chance_of_set
-from chancehalldesk.fraction import is_right
+from chancehalldesk.fraction import add_fractions, is_right
 from chancehalldesk.stakes import cents_of_interests, is_money_right
 
 CARD_TOO_LONG = -2
@@ -12,6 +12,7 @@ MONEY_NOT_RIGHT = -5
 WRONG_POOL_OR_ROW = -1
 NO_MONEY = -3
 FRACTION_NOT_RIGHT = -6
+SUM_ABOVE_ONE = -9
 FIRST_IS_MORE = 2
 BOTH_ARE_THE_SAME = 1
 FIRST_IS_LESS = 0
@@ -40,6 +41,15 @@ def more(over, under, other_over, other_under):
     if first == second:
         return [0, BOTH_ARE_THE_SAME]
     return [0, FIRST_IS_LESS]
+
+
+def sum_of(over, under, other_over, other_under):
+    if not is_right(over, under) or not is_right(other_over, other_under):
+        return [FRACTION_NOT_RIGHT]
+    total = add_fractions(over, under, other_over, other_under)
+    if total[0] > total[1]:
+        return [SUM_ABOVE_ONE]
+    return [0, total[0], total[1]]
 
 
 def answer_chance(pool, card, money, row, is_row_right, chance_of):

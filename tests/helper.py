@@ -234,6 +234,13 @@ def model_more(over, under, other_over, other_under):
     return [0, 2 if first > second else 1 if first == second else 0]
 
 
+def model_sum(over, under, other_over, other_under):
+    if not model_right(over, under) or not model_right(other_over, other_under):
+        return [-6]
+    total = Fraction(over, under) + Fraction(other_over, other_under)
+    return [-9] if total > 1 else told(total)
+
+
 def model_set_chance(cents_of, row):
     return sum(model_chance(cents_of, placed) for placed in itertools.permutations(row))
 

@@ -30,6 +30,7 @@ CALLS = {
     "order": "pool card money row",
     "any_of": "pool card money row",
     "more": "over under other_over other_under",
+    "sum_of": "over under other_over other_under",
 }
 
 
