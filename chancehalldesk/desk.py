@@ -13,6 +13,8 @@ WRONG_POOL_OR_ROW = -1
 NO_MONEY = -3
 FRACTION_NOT_RIGHT = -6
 SUM_ABOVE_ONE = -9
+NO_UNIT = -1
+NO_CHANCE = -7
 FIRST_IS_MORE = 2
 BOTH_ARE_THE_SAME = 1
 FIRST_IS_LESS = 0
@@ -50,6 +52,16 @@ def sum_of(over, under, other_over, other_under):
     if total[0] > total[1]:
         return [SUM_ABOVE_ONE]
     return [0, total[0], total[1]]
+
+
+def fair(over, under, unit):
+    if not is_right(over, under):
+        return [FRACTION_NOT_RIGHT]
+    if unit == 0:
+        return [NO_UNIT]
+    if over == 0:
+        return [NO_CHANCE]
+    return [0, unit * under // over]
 
 
 def answer_chance(pool, card, money, row, is_row_right, chance_of):

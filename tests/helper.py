@@ -241,6 +241,14 @@ def model_sum(over, under, other_over, other_under):
     return [-9] if total > 1 else told(total)
 
 
+def model_fair(over, under, unit):
+    if not model_right(over, under):
+        return [-6]
+    if unit == 0:
+        return [-1]
+    return [-7] if over == 0 else [0, math.floor(unit / Fraction(over, under))]
+
+
 def model_set_chance(cents_of, row):
     return sum(model_chance(cents_of, placed) for placed in itertools.permutations(row))
 

@@ -31,6 +31,7 @@ CALLS = {
     "any_of": "pool card money row",
     "more": "over under other_over other_under",
     "sum_of": "over under other_over other_under",
+    "fair": "over under unit",
 }
 
 
